@@ -1,0 +1,1 @@
+"""A list that can't be rewritten unseen."""
