@@ -1,4 +1,4 @@
-"""SHA-256 (FIPS 180-4). Bytes are lists of whole numbers from 0 to 255."""
+"""SHA-1 and SHA-256 (FIPS 180-4). Bytes are lists of whole numbers from 0 to 255."""
 
 WORD = 0xFFFFFFFF
 FIRST_STATE = (
@@ -14,6 +14,8 @@ ROUND_NUMBERS = (
     0x19A4C116, 0x1E376C08, 0x2748774C, 0x34B0BCB5, 0x391C0CB3, 0x4ED8AA4A, 0x5B9CCA4F, 0x682E6FF3,
     0x748F82EE, 0x78A5636F, 0x84C87814, 0x8CC70208, 0x90BEFFFA, 0xA4506CEB, 0xBEF9A3F7, 0xC67178F2,
 )
+SHORT_FIRST_STATE = (0x67452301, 0xEFCDAB89, 0x98BADCFE, 0x10325476, 0xC3D2E1F0)
+SHORT_ROUND_NUMBERS = (0x5A827999, 0x6ED9EBA1, 0x8F1BBCDC, 0xCA62C1D6)
 
 
 def bytes_of(number, count):
@@ -30,6 +32,28 @@ def padded(message):
     """The message with what makes whole blocks of 64 bytes of it, its length in bits last."""
     zeros = (55 - len(message)) % 64
     return message + [128] + [0] * zeros + bytes_of(8 * len(message), 8)
+
+
+def chosen(which, first, second):
+    """Bit by bit the first's where which has a 1, else the second's."""
+    return which & first ^ (which ^ WORD) & second
+
+
+def most_of(first, second, third):
+    """Bit by bit what at least two of three words have."""
+    return first & second ^ first & third ^ second & third
+
+
+def made_by(after, first_state, message):
+    """The bytes of the state that is left when each block has been taken in, where after tells the state behind one."""
+    whole = padded(message)
+    state = list(first_state)
+    for at in range(0, len(whole), 64):
+        state = after(state, whole[at:at + 64])
+    made = []
+    for word in state:
+        made.extend(bytes_of(word, 4))
+    return made
 
 
 def mixed(word, first, second, third):
@@ -57,10 +81,8 @@ def spread(block):
 
 def after_round(state, added):
     """The eight words of the state after one round."""
-    chosen = state[4] & state[5] ^ (state[4] ^ WORD) & state[6]
-    most = state[0] & state[1] ^ state[0] & state[2] ^ state[1] & state[2]
-    low = state[7] + mixed(state[4], 6, 11, 25) + chosen + added
-    high = low + mixed(state[0], 2, 13, 22) + most
+    low = state[7] + mixed(state[4], 6, 11, 25) + chosen(state[4], state[5], state[6]) + added
+    high = low + mixed(state[0], 2, 13, 22) + most_of(state[0], state[1], state[2])
     return [high & WORD] + state[0:3] + [(state[3] + low) & WORD] + state[4:7]
 
 
@@ -74,11 +96,46 @@ def after_block(state, block):
 
 def digest_of(message):
     """The 32 bytes that SHA-256 makes of a list of bytes."""
-    whole = padded(message)
-    state = list(FIRST_STATE)
-    for at in range(0, len(whole), 64):
-        state = after_block(state, whole[at:at + 64])
-    digest = []
-    for word in state:
-        digest.extend(bytes_of(word, 4))
-    return digest
+    return made_by(after_block, FIRST_STATE, message)
+
+
+def turned_left(word, count):
+    """The word turned left by so many bits."""
+    return (word << count | word >> 32 - count) & WORD
+
+
+def short_spread(block):
+    """The 80 words that a block of 64 bytes gives to SHA-1's rounds."""
+    words = [word_at(block, at) for at in range(0, 64, 4)]
+    for i in range(16, 80):
+        words.append(turned_left(words[i - 3] ^ words[i - 8] ^ words[i - 14] ^ words[i - 16], 1))
+    return words
+
+
+def short_mixed(stage, state):
+    """What SHA-1's rounds of a stage, each of 20 rounds, make of the middle three words of the state."""
+    if stage == 0:
+        return chosen(state[1], state[2], state[3])
+    if stage == 2:
+        return most_of(state[1], state[2], state[3])
+    return state[1] ^ state[2] ^ state[3]
+
+
+def after_short_round(state, stage, word):
+    """The five words of SHA-1's state after one round."""
+    added = short_mixed(stage, state) + state[4] + SHORT_ROUND_NUMBERS[stage] + word
+    first = (turned_left(state[0], 5) + added) & WORD
+    return [first, state[0], turned_left(state[1], 30)] + state[2:4]
+
+
+def after_short_block(state, block):
+    """The five words of SHA-1's state after a block of 64 bytes."""
+    worked = state
+    for i, word in enumerate(short_spread(block)):
+        worked = after_short_round(worked, i // 20, word)
+    return [(old + new) & WORD for old, new in zip(state, worked)]
+
+
+def short_digest_of(message):
+    """The 20 bytes that SHA-1 makes of a list of bytes."""
+    return made_by(after_short_block, SHORT_FIRST_STATE, message)

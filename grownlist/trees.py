@@ -79,3 +79,32 @@ def leads(n, m, root, leaf, digests):
     for left, other in zip(turns, digests):
         reached = joined(reached, other) if left else joined(other, reached)
     return reached == root
+
+
+def growth_turns(n, m):
+    """For each joining from the end of the first m up to the root of n: whether that end is in its left part."""
+    turns = left_turns(n, m - 1)
+    # The first m end with leaf m - 1: as long as it's in right parts only, what is joined ends with it too, and
+    # grown tells that as one root.
+    start = 0
+    while start < len(turns) and not turns[start]:
+        start = start + 1
+    return turns[start:]
+
+
+def goes_on(n, m, root, earlier, digests):
+    """Whether the digests, as grown from m to n, lead to both the root of n and the earlier one of m."""
+    turns = growth_turns(n, m)
+    # With no turn to the right the first m stand whole in the tree, and their root is where it begins.
+    path = [earlier] + digests if all(turns) else digests
+    if len(path) != 1 + len(turns):
+        return False
+    old = path[0]
+    new = path[0]
+    for left, other in zip(turns, path[1:]):
+        if left:
+            new = joined(new, other)
+        else:
+            old = joined(other, old)
+            new = joined(other, new)
+    return old == earlier and new == root

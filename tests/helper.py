@@ -1,6 +1,7 @@
-"""What the tests share: calls as they are handed in, answers taken apart, and the tree's rules by hashlib."""
+"""What the tests share: calls as handed in, answers taken apart, and the document's rules by hashlib and hmac."""
 
 import hashlib
+import hmac
 
 from grownlist.entries import answers
 
@@ -8,6 +9,7 @@ LOWEST = -2147483648
 HIGHEST = 2147483647
 
 OPEN = [1, 0, 0]
+COUNT = [13, 0, 0]
 
 
 def add(entry):
@@ -41,10 +43,53 @@ def isin(n, m, root_bytes, leaf_bytes, digests):
 
 def bad_isin(n, m, k, root_bytes, leaf_bytes, digests=()):
     """An isin whose k is told apart from its digests: where k is not as told, it comes without any."""
-    parts = list(root_bytes) + list(leaf_bytes)
-    for one in digests:
-        parts.extend(one)
-    return [7, 3 + len(parts), n, m, k] + parts + [0]
+    return with_parts(7, (n, m, k), root_bytes, leaf_bytes, *digests)
+
+
+def goeson(n, m, new_root, old_root, digests):
+    return bad_goeson(n, m, len(digests), new_root, old_root, digests)
+
+
+def bad_goeson(n, m, k, new_root, old_root, digests=()):
+    """A goeson whose k is told apart from its digests, likewise."""
+    return with_parts(8, (n, m, k), new_root, old_root, *digests)
+
+
+def find(leaf_bytes):
+    return with_parts(9, (), leaf_bytes)
+
+
+def mark(how, key, data):
+    return bad_mark(how, len(key), len(data), key, data)
+
+
+def bad_mark(how, k, n, key=b"", data=b""):
+    """A mark whose k and n are told apart from their bytes: where one is not as told, it comes without its bytes."""
+    return with_parts(10, (how, k, n), key, data)
+
+
+def same(how, key, data, told):
+    return bad_same(how, len(key), len(data), told, key, data)
+
+
+def bad_same(how, k, n, told, key=b"", data=b""):
+    return with_parts(11, (how, k, n), key, data, told)
+
+
+def derive(secret, purpose, n):
+    return bad_derive(len(secret), len(purpose), n, secret, purpose)
+
+
+def bad_derive(s, w, n, secret=b"", purpose=b""):
+    return with_parts(12, (s, w, n), secret, purpose)
+
+
+def with_parts(call, numbers, *parts):
+    """A call with bytes, each of the parts behind the one before."""
+    handed = list(numbers)
+    for part in parts:
+        handed.extend(part)
+    return [call, len(handed)] + handed + [0]
 
 
 def ask(*calls):
@@ -63,6 +108,14 @@ def ask(*calls):
     return apart
 
 
+def ask_many(calls):
+    """Answers of calls that need no list, 40 at a time."""
+    told = []
+    for at in range(0, len(calls), 40):
+        told.extend(ask(*calls[at:at + 40]))
+    return told
+
+
 def ask_of(entries, calls):
     """What the calls answer behind an open and adds of these entries, with no more than 40 calls at a time."""
     before = [OPEN] + [add(entry) for entry in entries]
@@ -71,6 +124,18 @@ def ask_of(entries, calls):
     for at in range(0, len(calls), room):
         told.extend(ask(*before, *calls[at:at + room])[len(before):])
     return told
+
+
+def told_roots(entries):
+    """The root of the first n entries for every n, as the program tells it."""
+    told = ask_of(entries, [root(n) for n in range(len(entries) + 1)])
+    return [bytes(one[1:]) for one in told]
+
+
+def told_digests(entries, call, pairs):
+    """What way or grown tells of each n and m, as (n, m, digests)."""
+    told = ask_of(entries, [call(n, m) for n, m in pairs])
+    return [(n, m, in_digests(one)) for (n, m), one in zip(pairs, told, strict=True)]
 
 
 def sha(data):
@@ -96,6 +161,17 @@ def plain_root(leaves):
     return row[0]
 
 
+def plain_mark(how, key, data):
+    return hmac.new(key, data, ("sha1", "sha256")[how]).digest()
+
+
+def plain_derived(secret, purpose, n):
+    parts = [b""]
+    for i in range(1, 34):
+        parts.append(hmac.new(secret, parts[-1] + purpose + bytes([i]), "sha256").digest())
+    return b"".join(parts)[:n]
+
+
 def way_holds(n, m, start, digests, goal):
     """RFC 9162, 2.1.3.2: from below, by the bits of m and n, not by halves as the document says it."""
     place, last, reached = m, n - 1, start
@@ -112,12 +188,41 @@ def way_holds(n, m, start, digests, goal):
     return last == 0 and reached == goal
 
 
+def grown_holds(n, m, digests, new_root, old_root):
+    """RFC 9162, 2.1.4.2, for m below n; by bits as well."""
+    path = list(digests)
+    if m & m - 1 == 0:
+        path = [old_root] + path
+    if not path:
+        return False
+    place, last = m - 1, n - 1
+    while place % 2 == 1:
+        place, last = place // 2, last // 2
+    old = new = path[0]
+    for other in path[1:]:
+        if last == 0:
+            return False
+        if place % 2 == 1 or place == last:
+            old, new = joined(other, old), joined(other, new)
+            while place % 2 == 0 and place != 0:
+                place, last = place // 2, last // 2
+        else:
+            new = joined(new, other)
+        place, last = place // 2, last // 2
+    return last == 0 and old == old_root and new == new_root
+
+
 def in_digests(answer):
     """An answer of way or grown as digests; its count has to fit."""
     digests = [bytes(answer[at:at + 32]) for at in range(1, len(answer), 32)]
     if answer[0] != len(digests) or len(answer) != 1 + 32 * len(digests):
         raise AssertionError("the count doesn't fit the digests")
     return digests
+
+
+def changed(data, at):
+    """The bytes with one bit of the byte at this place another."""
+    return data[:at] + bytes([data[at] ^ 1]) + data[at + 1:]
 
 
 def some_entries(count):

@@ -8,7 +8,8 @@ import pathlib
 import unittest
 
 from grownlist.entries import answers
-from helper import OPEN, add, ask, bad_add, get, grown, isin, leaf, plain_root, root, sha, way
+from helper import COUNT, OPEN, add, ask, bad_add, bad_derive, bad_goeson, bad_mark, derive, find, get, goeson, grown
+from helper import isin, leaf, mark, plain_derived, plain_mark, plain_root, root, same, sha, some_entries, way
 
 PACKAGE = pathlib.Path(__file__).resolve().parent.parent / "grownlist"
 
@@ -27,19 +28,65 @@ def one_list(*calls):
     return [number for call in calls for number in call]
 
 
-SOME = one_list(
-    get(0), OPEN, add([1, 2]), add([]), bad_add(-1), get(0), get(7), root(2), way(2, 1), grown(2, 1),
-    isin(1, 0, leaf([9]), leaf([9]), []), isin(2, 1, plain_root([leaf([1, 2]), leaf([])]), leaf([]), [leaf([1, 2])]),
+FIRST, SECOND = leaf([1, 2]), leaf([])
+BOTH = plain_root([FIRST, SECOND])
+SHORT, LONG = plain_mark(0, b"key", b"bytes"), plain_mark(1, b"", b"")
+
+# Every call, and what it answers where it stands.
+SOME_CALLS = (
+    (get(0), [-7]),
+    (find(FIRST), [-7]),
+    (COUNT, [-7]),
+    (mark(0, b"key", b"bytes"), [0, *SHORT]),
+    (OPEN, [0]),
+    (COUNT, [0, 0]),
+    (add([1, 2]), [0]),
+    (add([]), [1]),
+    (bad_add(-1), [-2]),
+    (COUNT, [2, 2]),
+    (get(0), [2, 1, 2]),
+    (get(7), [-2]),
+    (root(2), [0, *BOTH]),
+    (way(2, 1), [1, *FIRST]),
+    (grown(2, 1), [1, *SECOND]),
+    (isin(1, 0, SECOND, SECOND, []), [1]),
+    (isin(2, 1, BOTH, SECOND, [FIRST]), [1]),
+    (goeson(2, 1, BOTH, FIRST, [SECOND]), [1]),
+    (goeson(2, 1, BOTH, FIRST, [FIRST]), [0]),
+    (bad_goeson(2, 1, 19, BOTH, FIRST), [-2]),
+    (find(SECOND), [1]),
+    (find(BOTH), [-1]),
+    (mark(1, b"", b""), [0, *LONG]),
+    (bad_mark(2, 3, 0, b"key"), [-2]),
+    (same(0, b"key", b"bytes", SHORT), [1]),
+    (same(1, b"", b"", SHORT + bytes(12)), [0]),
+    (derive(b"secret", b"purpose", 33), [33, *plain_derived(b"secret", b"purpose", 33)]),
+    (derive(b"", b"", 0), [0]),
+    (bad_derive(1, -1, 0, b"s"), [-2]),
+    (get(1), [0]),
+    (OPEN, [0]),
+    (find(FIRST), [-1]),
+    (COUNT, [0, 0]),
+    (root(1), [-2]),
 )
+SOME = one_list(*[call for call, answer in SOME_CALLS])
 
 
 class Form(unittest.TestCase):
     def test_answers_one_behind_another_with_their_counts(self):
-        first, second = list(leaf([1, 2])), list(leaf([]))
-        both = list(plain_root([leaf([1, 2]), leaf([])]))
-        told = [1, -7, 1, 0, 1, 0, 1, 1, 1, -2, 3, 2, 1, 2, 1, -2, 33, 0] + both
-        told += [33, 1] + first + [33, 1] + second + [1, 1, 1, 1]
+        told = one_list(*[[len(answer)] + answer for call, answer in SOME_CALLS])
         self.assertEqual(answers(list(SOME)), told)
+
+    def test_every_call_stands_there(self):
+        self.assertEqual({call[0] for call, answer in SOME_CALLS}, set(range(1, 14)))
+
+    def test_numbers_written_out(self):
+        handed = [13, 0, 0, 1, 0, 0, 2, 3, 2, 104, 105, 0, 13, 0, 0, 12, 4, 0, 1, 0, 7, 0, 3, 1, 0, 0]
+        self.assertEqual(answers(handed), [1, -7, 1, 0, 1, 0, 2, 1, 2, 1, 0, 3, 2, 104, 105])
+        handed = [9, 32] + list(FIRST) + [0, 8, 67, 1, 1, 0] + list(FIRST) * 2 + [0, 10, 3, 2, 0, 0, 0]
+        self.assertEqual(answers(handed), [1, -7, 1, 1, 1, -2])
+        handed = [11, 23, 0, 0, 0] + [0] * 20 + [0, 11, 35, 3, 0, 0] + [0] * 32 + [0]
+        self.assertEqual(answers(handed), [1, 0, 1, -2])
 
     def test_an_empty_entry_and_no_digests(self):
         handed = one_list(OPEN, add([]), get(0), way(1, 0), grown(1, 1))
@@ -70,6 +117,32 @@ class Form(unittest.TestCase):
         self.assertEqual(told[9], [0] + list(plain_root([leaf(entry) for entry in entries])))
         self.assertEqual(told[10], [3060] + entries[7])
 
+    def test_forty_calls_of_all_kinds(self):
+        entries = [bytes(entry) for entry in some_entries(12)]
+        asked = []
+        for i in range(9):
+            key, data = entries[i], entries[i + 1]
+            asked.append((find(leaf(key)), [i]))
+            asked.append((derive(key, data, i), [i, *plain_derived(key, data, i)]))
+            asked.append((mark(i % 2, key, data), [0, *plain_mark(i % 2, key, data)]))
+        calls = [OPEN] + [add(entry) for entry in entries] + [call for call, answer in asked]
+        self.assertEqual(len(calls), 40)
+        told = ask(*calls)
+        self.assertEqual(told, [[0]] + [[i] for i in range(12)] + [answer for call, answer in asked])
+
+    def test_many_numbers_to_be_marked(self):
+        key, data = bytes(range(256)), bytes(i * 7 % 256 for i in range(4096))
+        calls = []
+        for how in (0, 1, 0):
+            calls += [mark(how, key, data), same(how, key, data, plain_mark(how, key, data))]
+        calls += [add(data), derive(key, key, 1024), find(leaf(data)), OPEN, add(data[:860]), find(leaf(data[:860]))]
+        self.assertEqual(len(one_list(*calls)), 31775)
+        wanted = []
+        for how in (0, 1, 0):
+            wanted += [[0, *plain_mark(how, key, data)], [1]]
+        wanted += [[-7], [1024, *plain_derived(key, key, 1024)], [-7], [0], [0], [0]]
+        self.assertEqual(ask(*calls), wanted)
+
     def test_many_long_answers(self):
         longest = [i % 256 for i in range(4096)]
         told = ask(OPEN, add(longest), *[get(0)] * 38)
@@ -93,8 +166,9 @@ class Whole(unittest.TestCase):
 
     def test_nothing_is_kept(self):
         first = answers(list(SOME))
-        self.assertEqual(answers(one_list(root(0), get(0))), [1, -7, 1, -7])
+        self.assertEqual(answers(one_list(root(0), get(0), COUNT)), [1, -7, 1, -7, 1, -7])
         self.assertEqual(answers(one_list(OPEN, get(0), root(0))), [1, 0, 1, -2, 33, 0] + list(sha(b"")))
+        self.assertEqual(answers(one_list(OPEN, find(FIRST), COUNT)), [1, 0, 1, -1, 2, 0, 0])
         self.assertEqual(answers(list(SOME)), first)
 
     def test_prints_nothing(self):

@@ -2,35 +2,12 @@
 
 import unittest
 
-from helper import HIGHEST, LOWEST, OPEN, add, ask, ask_of, bad_isin, in_digests, isin, joined, leaf, root
-from helper import some_entries, way, way_holds
+from helper import HIGHEST, LOWEST, OPEN, add, ask, ask_many, bad_isin, changed, isin, joined, leaf, some_entries
+from helper import told_digests, told_roots, way, way_holds
 
 MOST = 20
 ENTRIES = some_entries(MOST)
 LEAVES = [leaf(entry) for entry in ENTRIES]
-
-
-def ask_many(calls):
-    """Answers of calls that need no list, 40 at a time."""
-    told = []
-    for at in range(0, len(calls), 40):
-        told.extend(ask(*calls[at:at + 40]))
-    return told
-
-
-def told_roots(most):
-    return [bytes(one[1:]) for one in ask_of(ENTRIES, [root(n) for n in range(most + 1)])]
-
-
-def told_ways(most):
-    """The way of every leaf of every number up to this, as the program tells it."""
-    pairs = [(n, m) for n in range(1, most + 1) for m in range(n)]
-    told = ask_of(ENTRIES, [way(n, m) for n, m in pairs])
-    return [(n, m, in_digests(one)) for (n, m), one in zip(pairs, told, strict=True)]
-
-
-def changed(digest, at):
-    return digest[:at] + bytes([digest[at] ^ 1]) + digest[at + 1:]
 
 
 def long_way(m, count):
@@ -46,8 +23,8 @@ def long_way(m, count):
 class IsIn(unittest.TestCase):
     @classmethod
     def setUpClass(cls):
-        cls.roots = told_roots(MOST)
-        cls.ways = told_ways(MOST)
+        cls.roots = told_roots(ENTRIES)
+        cls.ways = told_digests(ENTRIES, way, [(n, m) for n in range(1, MOST + 1) for m in range(n)])
 
     def all_answer(self, calls, answer):
         self.assertEqual(ask_many(calls), [[answer]] * len(calls))

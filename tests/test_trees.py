@@ -3,8 +3,8 @@
 import unittest
 
 from grownlist.entries import GrownList, answer_to
-from helper import HIGHEST, LOWEST, ask_of, grown, in_digests, joined, leaf, plain_root, root, sha, some_entries
-from helper import way, way_holds
+from helper import HIGHEST, LOWEST, ask_of, grown, grown_holds, in_digests, joined, leaf, plain_root, root, sha
+from helper import some_entries, way, way_holds
 
 MOST = 35
 ENTRIES = some_entries(MOST)
@@ -23,30 +23,6 @@ KNOWN_ROOTS = (
     "ddb89be403809e325750d3d263cd78929c2942b7942a34b77e122c9594a74c8c",
     "5dc9da79a70659a9ad559cb701ded9a2ab9d823aad2f4960cfe370eff4604328",
 )
-
-
-def grown_holds(n, m, digests, new_root, old_root):
-    """RFC 9162, 2.1.4.2, for m below n; by bits as well."""
-    path = list(digests)
-    if m & m - 1 == 0:
-        path = [old_root] + path
-    if not path:
-        return False
-    place, last = m - 1, n - 1
-    while place % 2 == 1:
-        place, last = place // 2, last // 2
-    old = new = path[0]
-    for other in path[1:]:
-        if last == 0:
-            return False
-        if place % 2 == 1 or place == last:
-            old, new = joined(other, old), joined(other, new)
-            while place % 2 == 0 and place != 0:
-                place, last = place // 2, last // 2
-        else:
-            new = joined(new, other)
-        place, last = place // 2, last // 2
-    return last == 0 and old == old_root and new == new_root
 
 
 def filled(count):
